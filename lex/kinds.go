@@ -4,21 +4,21 @@ import "sync"
 
 // What a byte is: a set of these.
 const (
-	between  = 1 << iota // it stands between tokens
-	letter               // or _
-	digit                // to the base 10
-	hexDigit             // to the base 16
-	mark                 // a mark begins with it
+	Between  = 1 << iota // it stands between tokens
+	Letter               // or _
+	Digit                // to the base 10
+	HexDigit             // to the base 16
+	Mark                 // a mark begins with it
 )
 
-// The table of what the bytes are; those behind it are nothing.
+// The table of what the bytes are, made when it is asked first; those behind it are nothing.
 var (
 	kindsMade sync.Once
 	kinds     [128]uint8
 )
 
-// kindOf tells what a byte is.
-func kindOf(b byte) uint8 {
+// Kind tells what a byte is, by the table.
+func Kind(b byte) uint8 {
 	kindsMade.Do(makeKinds)
 	if int(b) >= len(kinds) {
 		return 0
@@ -27,17 +27,34 @@ func kindOf(b byte) uint8 {
 }
 
 func makeKinds() {
-	addKind(between, " \t\n")
-	addKind(letter, "abcdefghijklmnopqrstuvwxyzABCDEFGHIJKLMNOPQRSTUVWXYZ_")
-	addKind(digit, "0123456789")
-	addKind(hexDigit, "0123456789abcdefABCDEF")
-	for _, m := range marks {
-		addKind(mark, m[:1])
+	for b := range len(kinds) {
+		kinds[b] = kindOf(byte(b))
 	}
 }
 
-func addKind(kind uint8, bytes string) {
-	for i := range len(bytes) {
-		kinds[bytes[i]] |= kind
+// kindOf tells what a byte is. Tokens are told by it, not by the table: so they hang on nothing that is kept.
+func kindOf(b byte) uint8 {
+	switch {
+	case b == ' ' || b == '\t' || b == '\n':
+		return Between
+	case b >= '0' && b <= '9':
+		return Digit | HexDigit
+	case b >= 'a' && b <= 'f' || b >= 'A' && b <= 'F':
+		return Letter | HexDigit
+	case b >= 'a' && b <= 'z' || b >= 'A' && b <= 'Z' || b == '_':
+		return Letter
+	case beginsMark(b):
+		return Mark
 	}
+	return 0
+}
+
+// beginsMark tells whether a mark begins with the byte.
+func beginsMark(b byte) bool {
+	for _, m := range marks {
+		if m[0] == b {
+			return true
+		}
+	}
+	return false
 }
