@@ -4,18 +4,18 @@ import "plover/api"
 
 // The maps of what operators do stand where they are asked, and are small: so to ask one takes no new memory, and the machine may ask at each instruction.
 
-// ofOne answers what an operator of one value makes of a, ahead of being wrapped; false of others.
-func ofOne(op int, a int64) (int64, bool) {
-	do, is := map[int]func(int64) int64{
-		api.ENeg:  func(a int64) int64 { return -a },
-		api.ENot:  func(a int64) int64 { return -a - 1 },
-		api.EZero: func(a int64) int64 { return truth(a == 0) },
-		api.EW16:  func(a int64) int64 { return int64(Wrap(api.W16, a)) },
+// ofOne answers what an operator of one value makes of a, of a type; false of others. Only what can make another type's number of one of its own is wrapped: what ENot makes needs no more bits than a has.
+func ofOne(op, t int, a int32) (int32, bool) {
+	do, is := map[int]func(t int, a int32) int32{
+		api.ENeg:  func(t int, a int32) int32 { return Wrap(t, -int64(a)) },
+		api.ENot:  func(_ int, a int32) int32 { return -a - 1 },
+		api.EZero: func(_ int, a int32) int32 { return int32(truth(a == 0)) },
+		api.EW16:  func(_ int, a int32) int32 { return Wrap(api.W16, int64(a)) },
 	}[op]
 	if !is {
 		return 0, false
 	}
-	return do(a), true
+	return do(t, a), true
 }
 
 // ofTwo answers what an operator of two values makes of a and b: no division by 0, and b of a shift is the count.

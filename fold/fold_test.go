@@ -138,11 +138,12 @@ func TestP71UnRows(t *testing.T) {
 		-1:            {api.ENeg: {1, 1}, api.ENot: {0, 0}, api.EZero: {0, 0}, api.EW16: {-1, -1}, api.EW32: {-1, -1}},
 		32767:         {api.ENeg: {-32767, -32767}, api.ENot: {-32768, -32768}, api.EZero: {0, 0}, api.EW16: {32767, 32767}, api.EW32: {32767, 32767}},
 		-32768:        {api.ENeg: {-32768, 32768}, api.ENot: {32767, 32767}, api.EZero: {0, 0}, api.EW16: {-32768, -32768}, api.EW32: {-32768, -32768}},
-		32768:         {api.ENeg: {-32768, -32768}, api.ENot: {32767, -32769}, api.EZero: {0, 0}, api.EW16: {-32768, -32768}, api.EW32: {32768, 32768}},
-		65536:         {api.ENeg: {0, -65536}, api.ENot: {-1, -65537}, api.EZero: {0, 0}, api.EW16: {0, 0}, api.EW32: {65536, 65536}},
-		70000:         {api.ENeg: {-4464, -70000}, api.ENot: {-4465, -70001}, api.EZero: {0, 0}, api.EW16: {4464, 4464}, api.EW32: {70000, 70000}},
-		math.MaxInt32: {api.ENeg: {1, -math.MaxInt32}, api.ENot: {0, math.MinInt32}, api.EZero: {0, 0}, api.EW16: {-1, -1}, api.EW32: {math.MaxInt32, math.MaxInt32}},
-		math.MinInt32: {api.ENeg: {0, math.MinInt32}, api.ENot: {-1, math.MaxInt32}, api.EZero: {0, 0}, api.EW16: {0, 0}, api.EW32: {math.MinInt32, math.MinInt32}},
+		-32769:        {api.ENeg: {-32767, 32769}, api.ENot: {32768, 32768}, api.EZero: {0, 0}, api.EW16: {32767, 32767}, api.EW32: {-32769, -32769}},
+		32768:         {api.ENeg: {-32768, -32768}, api.ENot: {-32769, -32769}, api.EZero: {0, 0}, api.EW16: {-32768, -32768}, api.EW32: {32768, 32768}},
+		65536:         {api.ENeg: {0, -65536}, api.ENot: {-65537, -65537}, api.EZero: {0, 0}, api.EW16: {0, 0}, api.EW32: {65536, 65536}},
+		70000:         {api.ENeg: {-4464, -70000}, api.ENot: {-70001, -70001}, api.EZero: {0, 0}, api.EW16: {4464, 4464}, api.EW32: {70000, 70000}},
+		math.MaxInt32: {api.ENeg: {1, -math.MaxInt32}, api.ENot: {math.MinInt32, math.MinInt32}, api.EZero: {0, 0}, api.EW16: {-1, -1}, api.EW32: {math.MaxInt32, math.MaxInt32}},
+		math.MinInt32: {api.ENeg: {0, math.MinInt32}, api.ENot: {math.MaxInt32, math.MaxInt32}, api.EZero: {0, 0}, api.EW16: {0, 0}, api.EW32: {math.MinInt32, math.MinInt32}},
 	} {
 		for op, made := range want {
 			for _, typ := range allTypes() {
@@ -265,6 +266,11 @@ func TestP71Bin(t *testing.T) {
 func TestP71StaysInType(t *testing.T) {
 	for _, typ := range []int{api.W16, api.W32} {
 		for _, a := range ends() {
+			for op := api.ENeg; op <= api.EW32; op++ {
+				if v := fold.Un(op, typ, fold.Wrap(typ, int64(a))); fold.Wrap(typ, int64(v)) != v {
+					t.Errorf("Un(%d, %d, %d): %d is no number of the type", op, typ, a, v)
+				}
+			}
 			for _, b := range ends() {
 				a, b := fold.Wrap(typ, int64(a)), fold.Wrap(typ, int64(b))
 				for op := api.EMul; op <= api.EOr; op++ {

@@ -39,7 +39,7 @@ func reckonedUn(op, typ int, a int32) int32 {
 	case api.ENeg:
 		return wrapped(typ, new(big.Int).Neg(v))
 	case api.ENot:
-		return wrapped(typ, new(big.Int).Sub(new(big.Int).Neg(v), big.NewInt(1)))
+		return int32(new(big.Int).Sub(new(big.Int).Neg(v), big.NewInt(1)).Int64())
 	case api.EZero:
 		if a == 0 {
 			return 1
